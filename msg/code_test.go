@@ -35,7 +35,7 @@ func is(t *testing.T, what string, m msg.Msg, want string) {
 	if e != api.OK || string(b) != string(sealed(raw)) {
 		t.Errorf("%s: Encode: %x, %d, not %x", what, b, e, sealed(raw))
 	}
-	if n, e := msg.Decode(sealed(raw)); e != api.OK || !reflect.DeepEqual(n, m) {
+	if n, e := msg.Decode(sealed(raw)); e != api.OK || !reflect.DeepEqual(plain(n), plain(m)) {
 		t.Errorf("%s: Decode: %+v, %d", what, n, e)
 	}
 }
@@ -94,7 +94,7 @@ func sound(t *testing.T, what string, body []byte) bool {
 	t.Helper()
 	m, err := msg.Decode(sealed(body))
 	if err != api.OK {
-		if err != api.ErrForm || !reflect.DeepEqual(m, msg.Msg{}) {
+		if err != api.ErrForm || !reflect.DeepEqual(plain(m), msg.Msg{}) {
 			t.Errorf("%s: Decode(%x): %+v, %d", what, cut(body), m, err)
 		}
 		return false
@@ -284,7 +284,7 @@ func TestCorrupted(t *testing.T) {
 	rnd := rand.New(rand.NewSource(1))
 	none := func(what string, b []byte) {
 		t.Helper()
-		if m, err := msg.Decode(b); err != api.ErrForm || !reflect.DeepEqual(m, msg.Msg{}) {
+		if m, err := msg.Decode(b); err != api.ErrForm || !reflect.DeepEqual(plain(m), msg.Msg{}) {
 			t.Errorf("%s: Decode(%x): %+v, %d", what, b, m, err)
 		}
 	}

@@ -392,7 +392,7 @@ func TestStrange(t *testing.T) {
 					t.Errorf("strange: Same, Copy of %+v", x)
 				}
 				refusal := msg.Msg{Head: msg.Head{Kind: kind, Reply: true, From: x.To, To: x.From, Id: x.Id}, Err: api.Errno(n)}
-				if !reflect.DeepEqual(msg.Refuse(x, api.Errno(n)), refusal) {
+				if !reflect.DeepEqual(plain(msg.Refuse(x, api.Errno(n))), refusal) {
 					t.Errorf("strange: Refuse: %+v", msg.Refuse(x, api.Errno(n)))
 				}
 			}

@@ -77,16 +77,6 @@ func want(t *testing.T, what string, got, err api.Errno) {
 	}
 }
 
-// content tells the files of a disk.
-func content(d *disk.Disk) string {
-	var s strings.Builder
-	for _, name := range d.Names("") {
-		b, _ := d.Read(name)
-		fmt.Fprintf(&s, "%s=%x/%d ", name, b, d.Kept(name))
-	}
-	return s.String()
-}
-
 // row is one with what its record has beside it, and with what it owes.
 type row struct {
 	txn.Row
@@ -206,7 +196,7 @@ func (r row) enter() row {
 
 func badTime(now int64) bool { return now < 0 || now > api.MaxTime }
 
-// init answers what Init does, and the row that it writes, if any.
+// init answers what Init does, and the row that it makes, if any.
 func (m *model) init(id string, who, limit, now int64) (int64, int, api.Errno, *row) {
 	if badTime(now) || id == "" || len(id) > 24 || badTime(who) || limit == 0 || badTime(limit) {
 		return 0, 0, api.ErrArg, nil
@@ -330,22 +320,21 @@ func (m *model) end(pid int64, epoch int, commit bool, now int64) (int, api.Errn
 	return 0, api.ErrBusy, nil
 }
 
-// marked also answers the row that changes without being written.
-func (m *model) marked(pid int64, epoch, part int, now int64) (err api.Errno, written, unwritten *row) {
+func (m *model) marked(pid int64, epoch, part int, now int64) (api.Errno, *row) {
 	if badTime(now) {
-		return api.ErrArg, nil, nil
+		return api.ErrArg, nil
 	}
 	i := m.at(pid)
 	if i < 0 {
-		return api.ErrNone, nil, nil
+		return api.ErrNone, nil
 	}
 	r := m.rows[i]
 	if epoch != r.Epoch || !slices.Contains(r.owed, part) {
-		return api.OK, nil, nil
+		return api.OK, nil
 	}
 	r.owed = slices.DeleteFunc(slices.Clone(r.owed), func(p int) bool { return p == part })
 	if len(r.owed) > 0 {
-		return api.OK, nil, &r
+		return api.OK, &r
 	}
 	fates := map[bool]int{true: 2, false: 3}
 	r.Fate = fates[r.owner]
@@ -356,7 +345,7 @@ func (m *model) marked(pid int64, epoch, part int, now int64) (err api.Errno, wr
 	r.Parts, r.Since, r.owner, r.fence = nil, 0, false, false
 	if r.Epoch == m.c.Epochs {
 		r.State = txn.Retired
-		return api.OK, &r, nil
+		return api.OK, &r
 	}
 	r.Epoch++
 	r.State = txn.Idle
@@ -364,7 +353,7 @@ func (m *model) marked(pid int64, epoch, part int, now int64) (err api.Errno, wr
 		r.State, r.Parts = txn.Fencing, m.all()
 		r = r.enter()
 	}
-	return api.OK, &r, nil
+	return api.OK, &r
 }
 
 func (m *model) tick(now int64) []row {
@@ -390,28 +379,37 @@ func (m *model) put(r *row) {
 	m.rows = append(m.rows, *r)
 }
 
-// twin is a coordinator beside a model, and beside a ledger that is given the records that the model says: their disks have to be alike.
+// twin is a coordinator beside a model of it: the ledger has to have the records that the model says.
 type twin struct {
 	*txn.Coord
-	m    *model
-	d, e *disk.Disk
-	l    *ledger.Ledger
+	m *model
+	d *disk.Disk
+	l *ledger.Ledger
 }
 
 func newTwin(t *testing.T, c txn.Config, rows ...row) *twin {
 	t.Helper()
-	w := &twin{m: &model{c: c}, d: newDisk(t), e: newDisk(t)}
+	w := &twin{m: &model{c: c}, d: newDisk(t)}
 	l := opened(t, w.d)
-	w.l = opened(t, w.e)
 	for _, r := range rows {
 		want(t, "Set", l.Set("t"+r.Id, r.value(), 3), api.OK)
-		want(t, "Set", w.l.Set("t"+r.Id, r.value(), 3), api.OK)
 		w.m.rows = append(w.m.rows, r.enter())
 	}
 	slices.SortFunc(w.m.rows, func(a, b row) int { return int(a.Pid - b.Pid) })
-	w.Coord = started(t, w.d, c)
-	w.same(t, "started")
+	w.start(t, "started")
 	return w
+}
+
+// start starts the coordinator on what the disk has.
+func (w *twin) start(t *testing.T, what string) {
+	t.Helper()
+	w.l = opened(t, w.d)
+	x, err := txn.Start(w.l, w.m.c)
+	if err != api.OK {
+		t.Fatal("Start", err)
+	}
+	w.Coord = x
+	w.same(t, what)
 }
 
 func (w *twin) same(t *testing.T, what string) {
@@ -419,30 +417,19 @@ func (w *twin) same(t *testing.T, what string) {
 	if got, m := seen(w.Coord), w.m.seen(); got != m {
 		t.Errorf("%s: %s, not %s", what, got, m)
 	}
-	if got, m := content(w.d), content(w.e); got != m {
-		t.Errorf("%s: files %s, not %s", what, got, m)
+	for _, r := range w.m.rows {
+		if got, ok := w.l.Get("t" + r.Id); got != r.value() || !ok {
+			t.Errorf("%s: the record of %s: %x, %v, not %x", what, r.Id, got, ok, r.value())
+		}
 	}
 }
 
 // crash starts the coordinator again, on what is left.
 func (w *twin) crash(t *testing.T, keep ...int) {
 	t.Helper()
-	w.d, w.e = w.d.Crash(keep...), w.e.Crash(keep...)
-	w.l = opened(t, w.e)
+	w.d = w.d.Crash(keep...)
 	w.m = w.m.restarted()
-	w.Coord = started(t, w.d, w.m.c)
-	w.same(t, "started again")
-}
-
-// writes is what the model says to have been written.
-func (w *twin) writes(t *testing.T, now int64, rows ...*row) {
-	t.Helper()
-	for _, r := range rows {
-		if r != nil {
-			want(t, "Set of the model", w.l.Set("t"+r.Id, r.value(), now), api.OK)
-			w.m.put(r)
-		}
-	}
+	w.start(t, "started again")
 }
 
 func (w *twin) init(t *testing.T, id string, who, limit, now int64) (int64, int, api.Errno) {
@@ -453,7 +440,7 @@ func (w *twin) init(t *testing.T, id string, who, limit, now int64) (int64, int,
 	if pid != p || epoch != n || err != e {
 		t.Errorf("%s: %d, %d, %d, not %d, %d, %d", what, pid, epoch, err, p, n, e)
 	}
-	w.writes(t, now, r)
+	w.m.put(r)
 	w.same(t, what)
 	return pid, epoch, err
 }
@@ -464,7 +451,7 @@ func (w *twin) add(t *testing.T, pid int64, epoch int, now int64, parts ...int) 
 	err := w.Add(pid, epoch, now, parts...)
 	e, r := w.m.add(pid, epoch, now, parts...)
 	want(t, what, err, e)
-	w.writes(t, now, r)
+	w.m.put(r)
 	w.same(t, what)
 	return err
 }
@@ -477,7 +464,7 @@ func (w *twin) end(t *testing.T, pid int64, epoch int, commit bool, now int64) (
 	if got != n || err != e {
 		t.Errorf("%s: %d, %d, not %d, %d", what, got, err, n, e)
 	}
-	w.writes(t, now, r)
+	w.m.put(r)
 	w.same(t, what)
 	return got, err
 }
@@ -486,10 +473,9 @@ func (w *twin) marked(t *testing.T, pid int64, epoch, part int, now int64) api.E
 	t.Helper()
 	what := fmt.Sprintf("Marked(%d, %d, %d, %d)", pid, epoch, part, now)
 	err := w.Marked(pid, epoch, part, now)
-	e, r, u := w.m.marked(pid, epoch, part, now)
+	e, r := w.m.marked(pid, epoch, part, now)
 	want(t, what, err, e)
-	w.writes(t, now, r)
-	w.m.put(u)
+	w.m.put(r)
 	w.same(t, what)
 	return err
 }
@@ -507,7 +493,7 @@ func (w *twin) tick(t *testing.T, now int64) int {
 			t.Errorf("%s: %d, not %d", what, n, len(rows))
 		}
 		for _, r := range rows {
-			w.writes(t, now, &r)
+			w.m.put(&r)
 		}
 	}
 	w.same(t, what)

@@ -175,6 +175,22 @@ func TestLastMarkerStays(t *testing.T) {
 	}
 }
 
+// An Add that the ledger does not take leaves the partitions that were there in their order, however many there are.
+func TestAddKeepsParts(t *testing.T) {
+	for n := 1; n < 20; n++ {
+		w := newTwin(t, txn.Config{Parts: 21, Rows: 1, Epochs: 1})
+		w.init(t, "a", 0, 1, 0)
+		for part := n; part > 0; part-- {
+			w.add(t, 1, 0, 0, part)
+		}
+		w.d.Room(w.d.Used())
+		want(t, "Add without room", w.Add(1, 0, 0, 20, 0), api.ErrFull)
+		w.same(t, "behind an Add without room")
+		w.d.Room(api.MaxDisk)
+		w.add(t, 1, 0, 0, 20, 0)
+	}
+}
+
 // The errors of the arguments and of the row are told ahead of those of the ledger, and what writes nothing needs no power.
 func TestDown(t *testing.T) {
 	for _, c := range changes() {

